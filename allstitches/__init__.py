@@ -1,0 +1,1 @@
+"""Knitting instructions, read for all sizes at once."""
