@@ -119,7 +119,7 @@ def first_bad_round(row, loops, change):
         return 0
     if misfit(row, loops + change) is not None:
         return 1
-    # A row that fits twice has a group that takes the change, or there is none: it can only run short.
+    # A row that fits twice has a group into which the change can be parted, or nothing changes: it can only run short.
     if change >= 0:
         return None
     return (loops - needs(row)) // -change + 1

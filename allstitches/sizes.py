@@ -147,7 +147,7 @@ def least_period(flags):
 
 
 def least_start(flags, start, period):
-    """The least start from which the flags, which do so from the given one on, repeat."""
+    """The least start from which flags repeat with a period, told a start from which they do."""
     while start > 0 and flags[start - 1] == flags[start - 1 + period]:
         start = start - 1
     return start
