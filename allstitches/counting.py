@@ -5,7 +5,7 @@ from math import lcm
 from allstitches.kinds import makes, takes
 from allstitches.lines import Ratio, line_at
 from allstitches.pieces import gain, gain_of, needs, rows_of
-from allstitches.sizes import Sizes
+from allstitches.spans import first_in, gathered, last_in
 
 
 class Spot:
@@ -125,14 +125,48 @@ def first_bad_round(row, loops, change):
     return (loops - needs(row)) // -change + 1
 
 
+class Outs:
+    """Which sizes come out: of those from low to high the ones whose flag, by their rest, is True; and scant ones.
+
+    For each of the scant sizes, scant tells whether it comes out.
+    """
+
+    def __init__(self, piece):
+        # At all but the scant sizes, what is wanted is that some Ratios are at least 0, and some are integers.
+        fits = fits_wanted(piece)
+        low, high = bounds_of(counts_wanted(piece, fits))
+        self.flags = flags_whole([turns_of(row, loops) for row, loops in fits if row[1]])
+        self.low = low
+        # Without a flag no size comes out, however far out low is.
+        self.high = high if any(self.flags) else -1
+        self.scant = {size: trouble(piece, size) is None for size in scant_sizes(piece)}
+
+    def has_flag(self, size):
+        """Whether the flag of a size is True."""
+        return self.flags[size % len(self.flags)]
+
+    def scant_ones(self):
+        """The list of the scant sizes that come out."""
+        return [size for size, out in self.scant.items() if out]
+
+    def spans(self):
+        """The spans of the sizes that come out and are not scant, for each rest."""
+        return [[(self.low, self.high)] if flag else [] for flag in self.flags]
+
+    def ends(self):
+        """The first and the last size that comes out and is not scant; None if there is no last one, or none at all."""
+        rests = [rest for rest, flag in enumerate(self.flags) if flag]
+        first = min([first_in(self.low, rest, len(self.flags)) for rest in rests], default=None)
+        if self.high is None:
+            return (first, None)
+        last = max([last_in(self.high, rest, len(self.flags)) for rest in rests], default=-1)
+        return (first, last) if first is not None and first <= last else (None, None)
+
+
 def out_sizes(piece):
     """The set of the sizes that come out."""
-    # At all but the scant sizes, what is wanted is that some Ratios are at least 0, and some are integers.
-    fits = fits_wanted(piece)
-    low, high = bounds_of(counts_wanted(piece, fits))
-    flags = flags_whole([turns_of(row, loops) for row, loops in fits if row[1]])
-    others = [size for size in scant_sizes(piece) if trouble(piece, size) is None]
-    return gathered(low, high, flags, others)
+    outs = Outs(piece)
+    return gathered(outs.spans(), outs.scant_ones())
 
 
 def scant_sizes(piece):
@@ -208,17 +242,3 @@ def flags_whole(ratios):
         period = lcm(period, ratio.below)
     tests = [(ratio.base, ratio.rise, ratio.below) for ratio in ratios]
     return [all([(base + rise * size) % below == 0 for base, rise, below in tests]) for size in range(period)]
-
-
-def gathered(low, high, flags, others):
-    """The set of some other sizes, and of those from low to high whose flag, by their rest, is True."""
-    period = len(flags)
-    if not any(flags):
-        # Nothing is gathered then, however far out low is.
-        high = -1
-    end = low if high is None else high + 1
-    start = max([end] + [size + 1 for size in others])
-    stop = start if high is None else end
-    early = others + [size for size in range(low, stop) if flags[size % period]]
-    later = [rest for rest in range(period) if high is None and flags[(start + rest) % period]]
-    return Sizes(tuple(sorted(early)), start, period, tuple(later))

@@ -3,7 +3,7 @@
 from math import lcm
 
 from allstitches.errors import BadPiece
-from allstitches.kinds import is_word, makes, takes
+from allstitches.kinds import behind, is_word, makes, takes
 from allstitches.lines import is_line
 
 MOST_BEFORE = 60
@@ -43,6 +43,19 @@ def gain(row):
 def gain_of(rows):
     """How many loops more before and after of all rows make than they take."""
     return sum([gain(row) for row in rows])
+
+
+def reversed_row(row, change):
+    """The row of words that a function changes, which reverses them: behind or mirrored_word."""
+    before, group, after = row
+    if not group:
+        return (change(before), (), ())
+    return (change(after), change(group), change(before))
+
+
+def back_row(row):
+    """The row that looks from the right side as a row does from the wrong side."""
+    return reversed_row(row, behind)
 
 
 def are_repeatable(thing):

@@ -1,17 +1,14 @@
 import unittest
 
 from allstitches.counting import last_loops, out_sizes, spots, trouble
+from allstitches.knitting import cloth
 from allstitches.lines import Ratio
 from allstitches.pieces import Piece
 from allstitches.sizes import Sizes
-from tests.things import BO, K, KFB, P, TOG, YO, block, dice, flat, knit, part, random_piece, ring, row
+from tests.things import BO, K, KFB, P, TOG, YO, block, dice, flat, knit, part, random_piece, ring, row, told
 
 ALL = Sizes((), 0, 1, (0,))
 NONE = Sizes((), 0, 1, ())
-
-
-def told(sizes):
-    return (sizes.early, sizes.start, sizes.period, sizes.later)
 
 
 def line(ratio):
@@ -185,7 +182,8 @@ class TestOutSizes(unittest.TestCase):
         group = row([K], [K, P])
         one, two = Piece("flat", (3, 2), (("row", group),)), Piece("flat", (2, 1), (("row", group),))
         self.assertEqual([last_loops(one).rise, last_loops(one).base, out_sizes(two).period, out_sizes(two).later,
-                          trouble(two, 0)], [2, 3, 2, (1,), (0, "parts")])
+                          trouble(two, 0), cloth(two, 1)],
+                         [2, 3, 2, (1,), (0, "parts"), [(("k", "a"), ("k", "a"), ("p", "a"))]])
         self.assertEqual(out_sizes(one), ALL)
 
     def test_all_and_none(self):

@@ -12,6 +12,12 @@ FUNCTIONS = {
     "lines": {"is_line": "thing"},
     "pieces": {"is_row": "thing", "measure_of": "parts"},
     "counting": {"spots": "piece", "last_loops": "piece", "out_sizes": "piece", "trouble": "piece size"},
+    "families": {"family_of": "row", "same_family": "one two", "first_unlike": "one two"},
+    "knitting": {"cloth": "piece size / * most", "loops_at": "piece size"},
+    "sameness": {"where_same": "one two", "compare": "one two"},
+    "turning": {"turned": "piece", "mirrored": "piece", "inside_out": "piece", "where_centred": "piece"},
+    "floats": {"widest": "piece yarn", "where_narrow": "piece yarn most"},
+    "agreeing": {"agreeing": "one two"},
 }
 METHODS = {
     "sizes": {"Sizes": {"__init__": "early start period later", "__contains__": "x", "__and__": "other",
@@ -19,6 +25,11 @@ METHODS = {
                         "many": "", "least": "", "first": "many", "within": "other"}},
     "lines": {"Ratio": {"at": "size"}},
     "pieces": {"Piece": {"__init__": "way cast parts"}},
+    "families": {"Family": {"__init__": "left group right", "word": "turns", "length": "turns", "of_length": "many"}},
+    "knitting": {"Needles": {"__init__": "loops way", "work": "row"}},
+    "sameness": {"Verdict": {"__bool__": ""}},
+    "agreeing": {"Sheet": {"__init__": "period rows", "shows": "one two"},
+                 "Split": {"__init__": "size", "shows": "one two"}},
     "errors": {"BadPiece": {"__init__": "part"}, "NotOut": {"__init__": "row why"}, "NotWritten": {"__init__": "part"}},
 }
 
@@ -28,7 +39,11 @@ def body(module):
 
 
 def arguments(function):
-    return [argument.arg for argument in function.args.args]
+    """The names of the arguments; / and * stand behind those by position, and ahead of those by name."""
+    told = function.args
+    names = [argument.arg for argument in told.posonlyargs] + ["/"] * bool(told.posonlyargs)
+    names += [argument.arg for argument in told.args]
+    return names + ["*"] * bool(told.kwonlyargs) + [argument.arg for argument in told.kwonlyargs]
 
 
 class TestInterface(unittest.TestCase):

@@ -74,6 +74,35 @@ def knit(piece, size):
     return before, loops, None
 
 
+def cloth_at(piece, size):
+    """The looks of the rows of a size, by the words of [8], None if it does not come out."""
+    before, _, why = knit(piece, size)
+    if why is not None:
+        return None
+    rows = []
+    for one in piece.parts:
+        rows += [one[1]] if one[0] == "row" else list(one[2]) * (one[1][0] + one[1][1] * size)
+    looks = []
+    for (first, group, after), loops in zip(rows, before):
+        word = first
+        while sum(KINDS[kind][0] for kind, _ in word + after) < loops:
+            word += group
+        word += after
+        if piece.way == "flat" and len(looks) % 2:
+            word = tuple((KINDS[kind][2], yarn) for kind, yarn in reversed(word))
+        looks.append(word)
+    return looks
+
+
+def flipped(word, which):
+    """The back of a word (2), or its mirror image (3)."""
+    return tuple((KINDS[kind][which], yarn) for kind, yarn in reversed(word))
+
+
+def told(sizes):
+    return (sizes.early, sizes.start, sizes.period, sizes.later)
+
+
 def random_piece(dice):
     """A piece that comes out at some sizes more often than a blind one."""
     while True:
