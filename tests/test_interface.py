@@ -18,6 +18,11 @@ FUNCTIONS = {
     "turning": {"turned": "piece", "mirrored": "piece", "inside_out": "piece", "where_centred": "piece"},
     "floats": {"widest": "piece yarn", "where_narrow": "piece yarn most"},
     "agreeing": {"agreeing": "one two"},
+    "crossing": {"sent": "rows loops way", "back_after": "rows loops way", "where_back": "rows rounds way"},
+    "sides": {"yarns_of": "piece", "where_hanging": "piece", "where_yarns": "piece most"},
+    "joining": {"joined": "one two", "where_goes_on": "one two", "parted": "piece part"},
+    "settexts": {"write_sizes": "sizes", "read_sizes": "text"},
+    "reading": {"read_piece": "text", "read_row": "text"},
 }
 METHODS = {
     "sizes": {"Sizes": {"__init__": "early start period later", "__contains__": "x", "__and__": "other",
@@ -31,6 +36,8 @@ METHODS = {
     "agreeing": {"Sheet": {"__init__": "period rows", "shows": "one two"},
                  "Split": {"__init__": "size", "shows": "one two"}},
     "errors": {"BadPiece": {"__init__": "part"}, "NotOut": {"__init__": "row why"}, "NotWritten": {"__init__": "part"}},
+    "faults": {"BadText": {"__init__": "line column"}, "NoEdit": {"__init__": "kind"}, "BadName": {"__init__": "name"},
+               "NoPiece": {"__init__": "name"}},
 }
 
 
