@@ -130,6 +130,14 @@ class TestWhereNarrow(unittest.TestCase):
         piece = flat((4, 1), part([B, K], [B], [K, B]))
         self.check(piece, "b", 1, ((), 1, 1, (0,)))
         self.check(piece, "b", 2, ((), 0, 1, (0,)))
+        # The same with fewer turns at greater sizes, and with one turn, or none, at all sizes.
+        self.check(flat((10, -1), *piece.parts), "b", 1, (tuple(range(6)), 6, 1, ()))
+        self.check(flat((10, -2), *piece.parts), "b", 1, ((0, 1, 2), 3, 1, ()))
+        self.check(flat((5, 0), *piece.parts), "b", 1, ((), 0, 1, (0,)))
+        self.check(flat((4, 0), *piece.parts), "b", 1, ((), 0, 1, ()))
+        # And where more turns are wide.
+        self.check(flat((12, -2), part([B, K], [K], [B])), "b", 4, ((3, 4), 5, 1, ()))
+        self.check(flat((13, -2), part([B, K], [K], [B])), "b", 4, ((4, 5), 6, 1, ()))
 
     def test_fixed_words(self):
         self.check(flat((4, 1), part([B, K, K, B], [K])), "b", 1, ((), 0, 1, ()))

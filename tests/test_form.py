@@ -84,6 +84,13 @@ class TestForm(unittest.TestCase):
                 docstring = isinstance(node, ast.Expr) and isinstance(node.value, ast.Constant)
                 self.assertTrue(right or docstring, (path, node.lineno))
 
+    def test_names_of_modules_have_plain_values(self):
+        for path in FILES:
+            for node in parsed(path).body:
+                if isinstance(node, ast.Assign):
+                    self.assertEqual(len(node.targets), 1, path)
+                    ast.literal_eval(node.value)
+
     def test_imports(self):
         for path in FILES:
             for node in ast.walk(parsed(path)):

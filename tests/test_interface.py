@@ -23,6 +23,12 @@ FUNCTIONS = {
     "joining": {"joined": "one two", "where_goes_on": "one two", "parted": "piece part"},
     "settexts": {"write_sizes": "sizes", "read_sizes": "text"},
     "reading": {"read_piece": "text", "read_row": "text"},
+    "writing": {"write_piece": "piece", "write_row": "row", "write_word": "word", "write_line": "line"},
+    "costs": {"cheapest": "word", "cost": "writing", "spelled": "writing", "writing_text": "writing"},
+    "rewriting": {"alike_rows": "row", "thrift": "row", "are_alike": "row other"},
+    "charting": {"cheapest_parts": "chart"},
+    "fitting": {"rows_fitting": "told"},
+    "tabling": {"fold": "table", "at_size": "piece size"},
 }
 METHODS = {
     "sizes": {"Sizes": {"__init__": "early start period later", "__contains__": "x", "__and__": "other",
@@ -38,6 +44,11 @@ METHODS = {
     "errors": {"BadPiece": {"__init__": "part"}, "NotOut": {"__init__": "row why"}, "NotWritten": {"__init__": "part"}},
     "faults": {"BadText": {"__init__": "line column"}, "NoEdit": {"__init__": "kind"}, "BadName": {"__init__": "name"},
                "NoPiece": {"__init__": "name"}},
+    "costs": {"Cheapest": {"__init__": "writing table", "shows": "word"}},
+    "rewriting": {"Thrift": {"__init__": "row costs", "shows": "row"}},
+    "charting": {"Chart": {"__init__": "parts bounds", "shows": "chart"}},
+    "tabling": {"Folded": {"__init__": "piece", "shows": "table", "__bool__": ""},
+                "Unfolded": {"__init__": "place sizes", "shows": "table", "__bool__": ""}},
 }
 
 

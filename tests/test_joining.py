@@ -76,6 +76,8 @@ class TestWhereGoesOn(unittest.TestCase):
         # The size at which the loops are right is none, or is below 0.
         self.assertEqual(self.check(ring((2, 2)), ring((5, 0))), NONE)
         self.assertEqual(self.check(ring((5, 1)), ring((2, 0))), NONE)
+        self.assertEqual(self.check(ring((3, 1)), ring((2, 0))), NONE)
+        self.assertEqual(told(self.check(ring((2, 1)), ring((2, 0)))), ((0,), 1, 1, ()))
         # It is one at which one of both does not come out.
         odd = part((), [K, K])
         self.assertEqual(self.check(ring((2, 1), odd), ring((5, 0))), NONE)

@@ -256,6 +256,8 @@ class TestReadRow(Refused):
         self.assertEqual(read_row("1 (" * 9 + "k, 2 (p), 2 (p)" + ")" * 9), row([K] + [P] * 4))
         self.refused_row("1 (" * 11 + "k" + ")" * 11, 33)
         self.refused_row("1 (" * 1000, 33)
+        self.refused_row("*k*, " + "1 (" * 11 + "k" + ")" * 11, 38)
+        self.assertEqual(read_row("k, *p*, " + "1 (" * 10 + "k" + ")" * 10), row([K], [P], [K]))
         self.refused_row("*" + "1 (" * 10 + "k, 1 (p)" + ")" * 10 + "*", 1 + 30 + 3 + 3)
         # Numbers as great as can be: not all cells are made.
         with self.assertRaises(BadRow):

@@ -124,6 +124,7 @@ class TestReadSizes(unittest.TestCase):
                 read_sizes(text)
         # What is no text is told before.
         self.refused("0 + 997 n, 0 + 991 n, 1 + 2", 28)
+        self.assertEqual(read_sizes("0 + 999 n, 1 + 5 n").period, 4995)
         # A size alone has no step.
         self.assertEqual(read_sizes("997, 991, 983, 0 + 977 n").first(6), [0, 977, 983, 991, 997, 1954])
 

@@ -213,6 +213,15 @@ class TestWhereYarns(unittest.TestCase):
         wide = row([K, ("yo", "a")], [B])
         self.assertEqual(told(self.check(flat((1, 0), block((0, 1), wide)), 1)), ((0, 1), 2, 1, ()))
 
+    def test_groups_with_fewer_turns_at_greater_sizes(self):
+        self.assertEqual(told(self.check(flat((10, -1), part([K], [B])), 1)), ((9,), 10, 1, ()))
+        self.assertEqual(told(self.check(ring((11, -1), part([K], [B, B])), 1)), ((10,), 11, 1, ()))
+        self.assertEqual(told(self.check(ring((50, -3), part([K] * 2, [B] * 3)), 1)), ((16,), 17, 1, ()))
+        self.assertEqual(told(self.check(flat((9, -2), part([K], [B])), 1)), ((4,), 5, 1, ()))
+        # As many at all sizes.
+        self.assertEqual(told(self.check(flat((1, 0), part([K], [B])), 1)), ((), 0, 1, (0,)))
+        self.assertEqual(told(self.check(flat((2, 0), part([K], [B])), 1)), ((), 0, 1, ()))
+
     def test_more_than_there_are(self):
         piece = flat((4, 1), part((), [P]), part([B], [C], [D]))
         self.assertEqual(where_yarns(piece, 26), where_yarns(piece, 10 ** 30))
