@@ -41,7 +41,8 @@ class NotOut(StitchError):
     """A size does not come out: row tells how many rows are worked before, why the trouble."""
 
     def __init__(self, row, why):
-        StitchError.__init__(self, f"does not come out, rows worked: {row}, trouble: {why}")
+        # A number of rows may be too great to be written.
+        StitchError.__init__(self, f"does not come out, trouble: {why}")
         self.row = row
         self.why = why
 

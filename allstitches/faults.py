@@ -48,7 +48,7 @@ class NoEdit(StitchError):
     """An edit can't be made: kind is that of the edit."""
 
     def __init__(self, kind):
-        StitchError.__init__(self, f"can't be made, edit: {kind}")
+        StitchError.__init__(self, "an edit can't be made")
         self.kind = kind
 
 
@@ -56,7 +56,7 @@ class BadName(StitchError):
     """A name under which no piece can be kept."""
 
     def __init__(self, name):
-        StitchError.__init__(self, f"no name for a piece: {name}")
+        StitchError.__init__(self, "no name for a piece")
         self.name = name
 
 
@@ -64,7 +64,7 @@ class NoPiece(StitchError):
     """There is no piece with that name."""
 
     def __init__(self, name):
-        StitchError.__init__(self, f"no piece with the name: {name}")
+        StitchError.__init__(self, "no piece with the name")
         self.name = name
 
 

@@ -28,10 +28,13 @@ def read_sizes(text):
     if period > MOST_PERIOD:
         raise BadSizes(f"the common period {period} is above {MOST_PERIOD}")
     start = max([first + 1 for first, _ in items], default=0)
-    flags = [False] * (start + period)
+    end = start + period
+    flags = [False] * end
     for first, step in sorted(set(items)):
-        for size in range(first, len(flags) if step > 0 else first + 1, max(1, step)):
-            flags[size] = True
+        flags[first] = True
+        if step > 0:
+            for size in range(first, end, step):
+                flags[size] = True
     return sizes_of(flags, start)
 
 

@@ -78,7 +78,7 @@ def at_size(piece, size):
 def number_line(number):
     """The line that is a number at each size."""
     if not is_line((number, 0)):
-        raise TooLong(f"no line has the number {number}")
+        raise TooLong("a number that no line has")
     return (number, 0)
 
 

@@ -19,6 +19,8 @@ class TestErrors(unittest.TestCase):
         self.assertEqual(errors.NotWritten(4).part, 4)
         told = errors.NotOut(7, "few")
         self.assertEqual((told.row, told.why), (7, "few"))
+        # Numbers that Python does not write.
+        self.assertEqual(errors.NotOut(10 ** 5000, "few").row, 10 ** 5000)
 
     def test_they_are_caught_by_their_names(self):
         for error in (errors.BadPiece(0), errors.NotOut(0, "cast"), errors.TooLong("much"), errors.Never()):

@@ -18,6 +18,7 @@ class TestFaults(unittest.TestCase):
         self.assertEqual((told.line, told.column), (3, 14))
         self.assertEqual(faults.NoEdit("swap").kind, "swap")
         self.assertEqual(faults.BadName("Back").name, "Back")
+        self.assertEqual(faults.BadName(10 ** 5000).name, 10 ** 5000)
         self.assertEqual(faults.NoPiece("sleeve").name, "sleeve")
 
     def test_they_are_caught_by_their_names(self):

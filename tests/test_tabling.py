@@ -310,7 +310,7 @@ class TestAtSize(unittest.TestCase):
         piece = ring((4, 0), block((9, 9), PLAIN))
         self.assertEqual(at_size(piece, 10).parts, (block((99, 0), PLAIN),))
         for piece, size in [(flat((9, 9)), 11), (ring((4, 0), block((9, 9), PLAIN)), 11), (flat((0, 1)), 100),
-                            (flat((0, 1)), 10 ** 30), (ring((4, 0), block((0, 1), PLAIN), part([K] * 4)), 100)]:
+                            (flat((0, 1)), 10 ** 30), (flat((0, 1)), 10 ** 5000), (ring((4, 0), block((0, 1), PLAIN), part([K] * 4)), 100)]:
             with self.assertRaises(TooLong):
                 at_size(piece, size)
         # Numbers of loops within do not count.
