@@ -3,8 +3,9 @@
 from math import gcd, lcm
 
 from allstitches.looks import Looks
+from allstitches.measures import check_measures, common_measure
 from allstitches.plans import Plan, Run, runs_of
-from allstitches.sameness import check_measures, comes_out, common_measure, verdict_on
+from allstitches.sameness import comes_out, compare
 from allstitches.walking import Stretch, first_unlike_row
 
 
@@ -16,7 +17,7 @@ class Split:
 
     def shows(self, one, two):
         """Whether it is that size of two pieces."""
-        verdict = verdict_on(one, two)
+        verdict = compare(one, two)
         return not verdict.is_same and verdict.size == self.size
 
 
@@ -29,9 +30,10 @@ class Sheet:
 
     def shows(self, one, two):
         """Whether it is a sheet of two pieces."""
+        check_measures([one, two])
         if self.period < 1 or len(self.rows) != self.period:
             return False
-        if self.period % common_measure(one, two) != 0 or not verdict_on(one, two).is_same:
+        if self.period % common_measure([one, two]) != 0 or not compare(one, two).is_same:
             return False
         # The pieces are the same: what is right of the first one is right of both, and below least nothing is told.
         looks = Looks()
@@ -44,11 +46,10 @@ class Sheet:
 
 def agreeing(one, two):
     """The Sheet of two pieces, if they are the same at all sizes, otherwise the Split."""
-    check_measures(one, two)
-    verdict = verdict_on(one, two)
+    verdict = compare(one, two)
     if not verdict.is_same:
         return Split(verdict.size)
-    period = common_measure(one, two)
+    period = common_measure([one, two])
     looks = Looks()
     plan = Plan(one, looks)
     return Sheet(period, [sheet_row(plan, looks, rest, period) for rest in range(period)])

@@ -35,6 +35,16 @@ def last_loops(piece):
     return loops_by_part(piece)[-1]
 
 
+def rows_worked(piece):
+    """The Ratio of the number of the rows that are worked."""
+    base, rise = 0, 0
+    for part in piece.parts:
+        line = part[1] if part[0] == "block" else (1, 0)
+        base = base + line[0] * len(rows_of(part))
+        rise = rise + line[1] * len(rows_of(part))
+    return Ratio(base, rise, 1)
+
+
 def loops_by_part(piece):
     """The list of the Ratios of the loops before each part, and behind the last one."""
     loops = Ratio(piece.cast[0], piece.cast[1], 1)
@@ -144,6 +154,12 @@ class Outs:
     def has_flag(self, size):
         """Whether the flag of a size is True."""
         return self.flags[size % len(self.flags)]
+
+    def has(self, size):
+        """Whether a size comes out."""
+        if size in self.scant:
+            return self.scant[size]
+        return self.low <= size and (self.high is None or size <= self.high) and self.has_flag(size)
 
     def scant_ones(self):
         """The list of the scant sizes that come out."""

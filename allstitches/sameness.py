@@ -1,15 +1,10 @@
 """The cloth of two pieces, compared at all sizes."""
 
-from math import lcm
-
-from allstitches.errors import TooLong
 from allstitches.looks import Looks
-from allstitches.pieces import measure_of
+from allstitches.measures import check_measures, common_measure
 from allstitches.plans import Plan, runs_of
 from allstitches.spans import gathered
 from allstitches.walking import Stretch, first_unlike_row
-
-MOST_MEASURE = 840
 
 # What is at some sizes, beside the kinds of a Verdict: both come out with the same cloth, or none of them comes out.
 SAME = "same"
@@ -77,17 +72,6 @@ def comes_out(outs, rest, period, stretch):
     return outs.high is None or stretch.is_positive(outs.high + 1 - rest, -period)
 
 
-def common_measure(one, other):
-    """The least common multiple of the measures of two pieces."""
-    return lcm(measure_of(one.parts), measure_of(other.parts))
-
-
-def check_measures(one, other):
-    """Raises TooLong, if the common measure of two pieces is above the limit."""
-    if common_measure(one, other) > MOST_MEASURE:
-        raise TooLong(f"the common measure is above {MOST_MEASURE}")
-
-
 class Facing:
     """Two pieces, made ready for being read side by side."""
 
@@ -95,7 +79,7 @@ class Facing:
         self.looks = Looks()
         self.one = Plan(one, self.looks)
         self.other = Plan(other, self.looks)
-        self.period = common_measure(one, other)
+        self.period = common_measure([one, other])
 
     def lane(self, rest):
         """The Lane of the sizes with a rest."""
@@ -104,7 +88,7 @@ class Facing:
 
 def where_same(one, two):
     """The set of the sizes that come out in both pieces with the same cloth."""
-    check_measures(one, two)
+    check_measures([one, two])
     facing = Facing(one, two)
     return gathered([same_spans(facing.lane(rest)) for rest in range(facing.period)], [])
 
@@ -126,12 +110,7 @@ def same_spans(lane):
 
 def compare(one, two):
     """The Verdict on whether two pieces are the same at all sizes."""
-    check_measures(one, two)
-    return verdict_on(one, two)
-
-
-def verdict_on(one, two):
-    """The Verdict of compare, for any measures."""
+    check_measures([one, two])
     facing = Facing(one, two)
     best = Verdict(True, None, None, "")
     for rest in range(facing.period):

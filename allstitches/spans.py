@@ -37,20 +37,37 @@ def gathered(spans, others):
             early.extend(list(range(first, start if last is None else last + 1, period)))
             if last is None:
                 later.append((rest - start) % period)
-    return Sizes(tuple(sorted(early)), start, period, tuple(sorted(later)))
+    # The period of what has an end does not matter, and may be too great for a set.
+    return Sizes(tuple(sorted(early)), start, period if later else 1, tuple(sorted(later)))
 
 
 def without(low, high, holes):
     """The ascending list of the spans of the sizes from low to high that lie in none of some spans."""
     found = []
-    for first, last in sorted([(first, last) for first, last in holes if last is None or first <= last],
-                              key=lambda span: span[0]):
+    firsts = sorted([(span[0], place) for place, span in enumerate(holes) if span[1] is None or span[0] <= span[1]])
+    for first, place in firsts:
+        last = holes[place][1]
         if first > low:
             found.append((low, first - 1))
         if last is None:
             return cut_off(found, high)
         low = max(low, last + 1)
     return cut_off(found + [(low, None)], high)
+
+
+def finite(sizes):
+    """The set of the sizes of an ascending list."""
+    return Sizes(tuple(sizes), max(sizes, default=-1) + 1, 1, ())
+
+
+def clipped(spans, low, high):
+    """What lies from a low to a high size in ascending spans, None for no high one."""
+    return cut_off([(max(low, first), last) for first, last in spans if last is None or last >= low], high)
+
+
+def is_in(spans, size):
+    """Whether a size lies in one of some spans."""
+    return any([first <= size and (last is None or size <= last) for first, last in spans])
 
 
 def cut_off(spans, high):

@@ -417,16 +417,22 @@ class TestSheet(unittest.TestCase):
             self.assertFalse(Sheet(4, told).shows(one, one))
 
     def test_measures_above_840(self):
-        # No limit is told for sheets and splits that are given.
+        # Sheets and splits that are given refuse what agreeing does.
         one = ring((11, 0), part((), [K] * 11), block((0, 0), *[PLAIN] * 4))
         two = ring((11, 0), part((), [K]), block((0, 0), *[PLAIN] * 15))
         self.assertEqual(lcm(measure_of(one.parts), measure_of(two.parts)), 1320)
         told = (0, (("row", STEEL, 11, 0),))
-        self.assertTrue(Sheet(1320, [told] * 1320).shows(one, two))
-        self.assertFalse(Sheet(1320, [told] * 1319 + [(0, ())]).shows(one, two))
         self.assertTrue(Split(0).shows(one, ring((11, 0))))
+        for given in (Sheet(1320, [told] * 1320), Sheet(0, []), Split(0)):
+            with self.assertRaises(TooLong):
+                given.shows(one, two)
         with self.assertRaises(TooLong):
             agreeing(one, two)
+        # The least common multiple may be 840.
+        one = ring((60, 0), part((), [K] * 15), block((0, 0), *[PLAIN] * 4))
+        two = ring((60, 0), part((), [K]), block((0, 0), *[PLAIN] * 7))
+        self.assertEqual(lcm(measure_of(one.parts), measure_of(two.parts)), 840)
+        self.assertTrue(Sheet(840, [(0, (("row", STEEL, 60, 0),))] * 840).shows(one, two))
 
 
 if __name__ == "__main__":

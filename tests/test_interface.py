@@ -29,6 +29,14 @@ FUNCTIONS = {
     "charting": {"cheapest_parts": "chart"},
     "fitting": {"rows_fitting": "told"},
     "tabling": {"fold": "table", "at_size": "piece size"},
+    "seams": {"edge_of": "piece edge", "where_seam": "one edge other other_edge", "where_all": "seams",
+              "where_picked": "one edge other take units"},
+    "yarn": {"amount": "piece what", "where_more": "one other what", "where_most": "piece what most"},
+    "hanging": {"below": "piece size row place", "above": "piece size row place", "hangs_on": "piece size row place",
+                "undone": "piece size loop", "where_closed": "piece"},
+    "spreading": {"spread": "total parts", "judge_spread": "gaps", "schedule": "rows times",
+                  "shaped": "way cast plain change gaps"},
+    "gauging": {"nearest": "piece edge above below", "where_between": "piece edge low high"},
 }
 METHODS = {
     "sizes": {"Sizes": {"__init__": "early start period later", "__contains__": "x", "__and__": "other",
@@ -49,6 +57,10 @@ METHODS = {
     "charting": {"Chart": {"__init__": "parts bounds", "shows": "chart"}},
     "tabling": {"Folded": {"__init__": "piece", "shows": "table", "__bool__": ""},
                 "Unfolded": {"__init__": "place sizes", "shows": "table", "__bool__": ""}},
+    "yarn": {"Amount": {"at": "size", "told": "", "plus": "other factor", "times": "above below",
+                        "where_positive": ""}},
+    "spreading": {"Even": {"__init__": "shift", "shows": "gaps", "__bool__": ""},
+                  "Uneven": {"__init__": "one other width", "shows": "gaps", "__bool__": ""}},
 }
 
 

@@ -138,3 +138,23 @@ def random_row(dice, kinds):
 
 def dice(seed):
     return random.Random(seed)
+
+
+def by_another(piece, line):
+    """The piece whose lines have another line in the place of the size, None if one of them is no line then."""
+    def put(old):
+        return (old[0] + old[1] * line[0], old[1] * line[1])
+
+    lines = [put(piece.cast)] + [put(one[1]) for one in piece.parts if one[0] == "block"]
+    if any(abs(base) > 99 or abs(rise) > 9 for base, rise in lines):
+        return None
+    parts = [("block", put(one[1]), one[2]) if one[0] == "block" else one for one in piece.parts]
+    return Piece(piece.way, lines[0], tuple(parts))
+
+
+def edge_at(piece, edge, size):
+    """How many loops or rows an edge has at a size, by working all rows; None if it does not come out."""
+    before, last, why = knit(piece, size)
+    if why is not None:
+        return None
+    return {"cast": piece.cast[0] + piece.cast[1] * size, "end": last, "side": len(before)}[edge]
