@@ -125,6 +125,11 @@ class Piece:
         self.parts = parts
 
 
+def copied(piece):
+    """A piece that is like another one."""
+    return Piece(piece.way, piece.cast, piece.parts)
+
+
 def check_piece(way, cast, parts):
     """Raises BadPiece, if these three do not make a piece."""
     if not isinstance(way, str) or way not in ("flat", "round") or not is_line(cast):

@@ -5,7 +5,7 @@ from allstitches.faults import BadTable
 from allstitches.integers import is_size
 from allstitches.knitting import check_out, times_of
 from allstitches.lines import is_line, line_at
-from allstitches.pieces import Piece, rows_of
+from allstitches.pieces import Piece, copied, rows_of
 
 MOST_SIZE = 1000
 
@@ -14,7 +14,7 @@ class Folded:
     """The piece that is at each size of a table the one of the table."""
 
     def __init__(self, piece):
-        self.piece = piece
+        self.piece = copied(piece)
 
     def __bool__(self):
         return True

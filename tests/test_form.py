@@ -86,10 +86,38 @@ class TestForm(unittest.TestCase):
 
     def test_names_of_modules_have_plain_values(self):
         for path in FILES:
+            above = set()
             for node in parsed(path).body:
+                if isinstance(node, ast.FunctionDef):
+                    above.add(node.name)
                 if isinstance(node, ast.Assign):
                     self.assertEqual(len(node.targets), 1, path)
-                    ast.literal_eval(node.value)
+                    for value in node.value.values if isinstance(node.value, ast.Dict) else [node.value]:
+                        # A dict may have functions that are defined above.
+                        if not isinstance(value, ast.Name) or value.id not in above:
+                            ast.literal_eval(value)
+
+    def test_functions_in_dicts_are_given_a_name_before_they_are_called(self):
+        for path in FILES:
+            for node in ast.walk(parsed(path)):
+                if isinstance(node, ast.Call):
+                    self.assertIsInstance(node.func, (ast.Name, ast.Attribute), (path, node.lineno))
+
+    def test_generators_and_context_managers(self):
+        # The names of generators are those of no other functions, and no variable is called that has one.
+        names = [node.name for path in FILES for node in functions(parsed(path))]
+        for path in FILES:
+            for node in functions(parsed(path)):
+                if any(isinstance(one, (ast.Yield, ast.YieldFrom)) for one in ast.walk(node)):
+                    self.assertEqual(names.count(node.name), 1, path)
+                if node.name == "__exit__":
+                    self.check_exit(path, node)
+
+    def check_exit(self, path, node):
+        """Only names are assigned to attributes, for an error or none, and nothing is called."""
+        self.assertFalse([one for one in ast.walk(node) if isinstance(one, (ast.Call, ast.BinOp, ast.Return))], path)
+        tests = [ast.unparse(one.test) for one in ast.walk(node) if isinstance(one, ast.If)]
+        self.assertLessEqual(set(tests), {"kind is None", "kind is not None"}, path)
 
     def test_imports(self):
         for path in FILES:
