@@ -46,7 +46,7 @@ def sizes_beside(outs, turn):
     found = outs.scant_ones()
     period = len(outs.flags)
     last = turn if outs.high is None else min(turn, outs.high)
-    for rest in [rest for rest, flag in enumerate(outs.flags) if flag]:
+    for rest in [place for place, flag in enumerate(outs.flags) if flag]:
         sides = [last_in(last, rest, period), first_in(max(turn + 1, outs.low), rest, period)]
         found.extend([size for size in sides if outs.has(size)])
     return found

@@ -171,6 +171,12 @@ class TestShows(unittest.TestCase):
                       [("alter", 0, 0), ("alter", 1, 1), ("alter", 2, 2)]]:
             self.assertIs(self.shows(steps, self.bounds), False)
 
+    def test_steps_that_end_too_early(self):
+        # What is left out costs nothing.
+        found = fewest_changes(self.one, self.one)
+        for many in range(3):
+            self.assertIs(Changes(found.steps[:many], found.bounds).shows(self.one, self.one), False)
+
     def test_bounds(self):
         for pair in self.bounds:
             self.assertIs(self.shows(self.steps, {**self.bounds, pair: self.bounds[pair] + 1}), False)

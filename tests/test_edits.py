@@ -89,6 +89,8 @@ class TestKinds(Edits):
         self.check(piece, ("gather", 1), rows[0], block((6, 2), ONE, TWO, THREE), *rows)
         self.refused(piece, *[("gather", at) for at in (0, 2, 3, 4, 5, 6, 7, 8)])
         self.check(flat((4, 1), rows[0], block((-99, 9), ONE)), ("gather", 0), block((-98, 9), ONE))
+        self.check(flat((4, 1), rows[0], block((1, 2), ONE), block((3, 4), TWO), rows[1]), ("gather", 0),
+                   block((2, 2), ONE), block((3, 4), TWO), rows[1])
         self.refused(flat((4, 1), rows[0], block((99, 9), ONE)), ("gather", 0))
         # Rows behind it, another block between them, and other rows.
         self.refused(flat((4, 1), block((5, 2), ONE), rows[0]), ("gather", 0), ("gather", 1))
@@ -101,6 +103,8 @@ class TestKinds(Edits):
     def test_double(self):
         self.check(flat((4, 1), block((6, 2), ONE, TWO)), ("double", 0), block((3, 1), ONE, TWO, ONE, TWO))
         self.check(flat((4, 1), block((0, 0), ONE)), ("double", 0), block((0, 0), ONE, ONE))
+        self.check(flat((4, 1), block((2, 4), ONE), part((), [P])), ("double", 0), block((1, 2), ONE, ONE), part((), [P]))
+        self.refused(flat((4, 1), part((), [P]), block((2, 4), ONE)), ("double", 0))
         self.check(flat((4, 1), block((-6, -8), ONE)), ("double", 0), block((-3, -4), ONE, ONE))
         for line in [(5, 2), (6, 1), (5, 1), (-1, 0), (0, -9)]:
             self.refused(flat((4, 1), block(line, ONE)), ("double", 0))

@@ -114,9 +114,11 @@ class TestGrade(unittest.TestCase):
         wanted = {size: (random.randint(-10000, 10000), random.randint(1, 10000)) for size in range(1001)}
         found = grade(wanted)
         self.assertTrue(found.shows(wanted))
-        self.assertEqual(far_by(found.line, wanted)[0],
-                         min([far_by((base, rise), wanted)[0] for base in range(found.line[0] - 3, found.line[0] + 4)
-                              for rise in (0, found.line[1])], key=lambda pair: Fraction(*pair)))
+        best = Fraction(*far_by(found.line, wanted)[0])
+        for base in range(found.line[0] - 3, found.line[0] + 4):
+            for rise in (0, found.line[1]):
+                if is_line((base, rise)):
+                    self.assertGreaterEqual(Fraction(*far_by((base, rise), wanted)[0]), best)
 
     def test_what_is_not_wanted(self):
         good = grade({1: (5, 1)})

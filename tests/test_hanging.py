@@ -51,6 +51,14 @@ class TestHanging(unittest.TestCase):
         self.assertEqual(hangs_on(piece, 0, 3, 0), [[0], [0, 1], [0, 1], [0, 1, 2]])
         self.assertEqual(hangs_on(piece, 0, 3, 1), [[1], [2], [2], [3, 4]])
 
+    def test_cells_that_make_several_of_the_loops(self):
+        piece = ring((2, 0), part([K, KFB]), part([CDD]))
+        self.assertEqual([below(piece, 0, 1, 0), hangs_on(piece, 0, 1, 0)], [[0, 1], [[0], [0, 1]]])
+        piece = ring((4, 0), part([CABLE]), part([K, CDD]), part([TOG]))
+        self.assertEqual([above(piece, 0, 0, 0), hangs_on(piece, 0, 2, 0)], [[0, 1], [[0], [0, 1], [0]]])
+        piece = ring((3, 0), part([K, KFB, KFB]), part([K, CABLE]))
+        self.assertEqual([below(piece, 0, 1, 0), below(piece, 0, 1, 1)], [[0], [1, 2]])
+
     def test_cells_that_take_or_make_nothing(self):
         piece = ring((4, 0), part([K, YO, K, BO, K]), part([K, K, TOG]))
         self.assertEqual([below(piece, 0, 1, place) for place in range(3)], [[0], [1], [2, 4]])

@@ -68,7 +68,8 @@ class TestOpen(unittest.TestCase):
     def test_parts_that_are_none(self):
         right = part([A], [K])
         for wrong in [("row",), ("row", ([A], [K], [])), ("row", ((A,), (K,))), ("row", ((A,), (K,), (), ())),
-                      ("rows", right[1]), ("row", right[1], right[1]), ["row", right[1]], right[1], ("block", (2, 1)),
+                      ("rows", right[1]), ("row", right[1], right[1]), (),
+                      ("rows", (2, 1), (right[1],)), ("row", (2, 1), (right[1],)), ("block", right[1]), ["row", right[1]], right[1], ("block", (2, 1)),
                       ("block", (2, 1), ()), ("block", (2, 1), right[1]), ("block", (2, 1), [right[1]]),
                       ("block", (100, 1), (right[1],)), ("block", (2, 10), (right[1],)), ("block", 2, (right[1],)),
                       ("block", (True, 1), (right[1],)), ("block", (2, 1), (right[1],) * 21), (right[1],),

@@ -154,6 +154,10 @@ class TestRepair(unittest.TestCase):
         self.assertFalse(repair(falling, wanted).against[(0, 0)] < 9)
         self.assertTrue(repair(falling, wanted).shows(falling, wanted))
         self.assertEqual(repair(falling, wanted).change, (0, 1))
+        for wanted in (Sizes((), 0, 3, (1,)), Sizes((1,), 4, 3, (2,)), Sizes((), 2, 2, (1,))):
+            found = repair(falling, wanted)
+            self.assertTrue(found.shows(falling, wanted))
+            self.assertEqual(found.against[(0, 0)], (wanted - out_sizes(falling)).least())
 
     def test_against_trying_sizes(self):
         random = dice(251)

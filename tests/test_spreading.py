@@ -144,6 +144,10 @@ class TestShows(unittest.TestCase):
                                   (0, 5, 1), (0, -3, 1), (0, 1, 4), (0, 1, 5), (0, 1, 10 ** 30), (10 ** 30, 1, 1),
                                   (0, 2, 1), (3, 0, 1), (0, 3, 4)]:
             self.assertIs(Uneven(one, other, width).shows(gaps), False)
+        self.assertTrue(Uneven(1, 0, 1).shows([0, 3, 1, 3]))
+        for one, other in [(1, 4), (1, -4), (1, -1), (5, 0), (-3, 0)]:
+            self.assertIs(Uneven(one, other, 1).shows([0, 3, 1, 3]), False)
+        self.assertIs(Uneven(0, -1, 1).shows(gaps), False)
         # Even gaps have none.
         gaps = spread(31, 12)
         for one, other, width in itertools.product(range(12), range(12), range(13)):

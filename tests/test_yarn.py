@@ -273,6 +273,12 @@ class TestWherePositive(unittest.TestCase):
         self.check(polynomial(5037 * 5039, -10076, 1), ((*range(5037),), 5040, 1, (0,)))
         self.check(polynomial(-5038 * 5041, 10079, -1), ((5039, 5040), 5041, 1, ()))
         self.too_long(polynomial(-5038 * 5042, 10080, -1))
+        # Above 0 at many sizes beyond, but not at all; and at all but 9001, behind the turning point.
+        self.too_long(polynomial(-5000 * 6000, 11000, -1))
+        self.too_long(polynomial(-5000 * 6000 * 2, 22000, -2))
+        self.too_long(polynomial(324054002, -72006, 4))
+        self.too_long(polynomial(-324054001, 72006, -4))
+        self.check(polynomial(-324054002, 72006, -4), ((), 0, 1, ()))
         # Above 0 at one size alone, or at all but one.
         for size in (5040, 5041, 5042, 9000):
             alone = polynomial(1 - size * size, 2 * size, -1)
