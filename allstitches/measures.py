@@ -49,7 +49,7 @@ def flags_at_once(lists):
     period = 1
     for flags in lists:
         period = lcm(period, len(flags))
-    found = [all([flags[rest % len(flags)] for flags in lists]) for rest in range(period)]
+    found = [all([mine[rest % len(mine)] for mine in lists]) for rest in range(period)]
     return found[:least_period(found)]
 
 

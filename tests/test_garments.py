@@ -13,8 +13,7 @@ from allstitches.seams import where_all, where_seam
 from allstitches.sizes import Sizes
 from allstitches.yarn import Amount, amount
 from tests.pairs import plain_piece
-from tests.things import (CABLE, K, ODD_THINGS, P, TOG, YO, block, dice, edge_at, flat, part, random_piece, ring, row,
-                          told)
+from tests.things import CABLE, K, ODD_THINGS, P, block, dice, edge_at, flat, part, random_piece, ring, row, told
 
 ALL = Sizes((), 0, 1, (0,))
 NONE = Sizes((), 0, 1, ())

@@ -5,13 +5,11 @@ from allstitches.counting import out_sizes
 from allstitches.errors import Never, TooLong
 from allstitches.faults import BadCount, BadEdge
 from allstitches.gauging import nearest, where_between
-from allstitches.pieces import Piece
 from allstitches.reading import read_piece
 from allstitches.seams import edge_of
 from allstitches.sizes import Sizes
 from tests.pairs import plain_piece
-from tests.things import (BO, K, KFB, ODD_THINGS, TOG, YO, block, dice, edge_at, flat, part, random_piece, ring, row,
-                          told)
+from tests.things import BO, K, ODD_THINGS, TOG, YO, block, dice, edge_at, flat, part, random_piece, ring, row, told
 
 ALL = Sizes((), 0, 1, (0,))
 NONE = Sizes((), 0, 1, ())
